@@ -2,9 +2,9 @@
 package whole
 
 import (
-	"math/bits"
-
 	"arithmetica/api"
+	"arithmetica/bound"
+	"arithmetica/modulo"
 )
 
 const (
@@ -14,7 +14,7 @@ const (
 
 // Gcd answers the greatest number that divides both a and b; 0 of 0 and 0.
 func Gcd(a, b int) (int, api.Fault) {
-	if f := numbersFault(a, b); f.Code != api.OK {
+	if f := bound.Numbers(a, b); f.Code != api.OK {
 		return 0, f
 	}
 	return gcd(a, b), api.Fault{}
@@ -22,7 +22,7 @@ func Gcd(a, b int) (int, api.Fault) {
 
 // Bezout answers g, which is Gcd, and u and v with u a + v b = g.
 func Bezout(a, b int) (g, u, v int, f api.Fault) {
-	if f := numbersFault(a, b); f.Code != api.OK {
+	if f := bound.Numbers(a, b); f.Code != api.OK {
 		return 0, 0, 0, f
 	}
 	g, u, v = bezout(a, b)
@@ -31,7 +31,7 @@ func Bezout(a, b int) (g, u, v int, f api.Fault) {
 
 // Power answers a to the power of n, left by m.
 func Power(a, n, m int) (int, api.Fault) {
-	if f := numbersFault(a, n, m); f.Code != api.OK {
+	if f := bound.Numbers(a, n, m); f.Code != api.OK {
 		return 0, f
 	}
 	if n < 0 {
@@ -40,12 +40,12 @@ func Power(a, n, m int) (int, api.Fault) {
 	if m < 1 {
 		return 0, api.Fault{Code: api.ErrRange, At: 2}
 	}
-	return power(a, n, m), api.Fault{}
+	return modulo.Power(a, n, m), api.Fault{}
 }
 
 // Inverse answers the number from 0 to m - 1 whose product with a leaves what 1 leaves, left by m.
 func Inverse(a, m int) (int, api.Fault) {
-	if f := numbersFault(a, m); f.Code != api.OK {
+	if f := bound.Numbers(a, m); f.Code != api.OK {
 		return 0, f
 	}
 	if m < 1 {
@@ -80,26 +80,13 @@ func Join(rests, mods []int) (rest, mod int, f api.Fault) {
 
 // Root answers the greatest whole number whose k-th power is not above n.
 func Root(n, k int) (int, api.Fault) {
-	if !isNumber(n) || n < 0 {
+	if !bound.IsNumber(n) || n < 0 {
 		return 0, api.Fault{Code: api.ErrRange, At: 0}
 	}
 	if k < 1 || k > mostExponent {
 		return 0, api.Fault{Code: api.ErrRange, At: 1}
 	}
 	return root(n, k), api.Fault{}
-}
-
-func isNumber(n int) bool {
-	return -api.MaxNum <= n && n <= api.MaxNum
-}
-
-func numbersFault(arguments ...int) api.Fault {
-	for i, n := range arguments {
-		if !isNumber(n) {
-			return api.Fault{Code: api.ErrRange, At: i}
-		}
-	}
-	return api.Fault{}
 }
 
 func size(n int) int {
@@ -117,21 +104,6 @@ func sign(n int) int {
 		return -1
 	}
 	return 0
-}
-
-// left answers what is a left by m, for m above 0. Go's own % takes its sign from a.
-func left(a, m int) int {
-	rest := a % m
-	if rest < 0 {
-		return rest + m
-	}
-	return rest
-}
-
-// productLeft answers what is a b left by m, for a and b from 0 to m - 1. The product may need 128 bits.
-func productLeft(a, b, m int) int {
-	high, low := bits.Mul64(uint64(a), uint64(b))
-	return int(bits.Rem64(high, low, uint64(m)))
 }
 
 func gcd(a, b int) int {
@@ -170,21 +142,9 @@ func euclid(a, b int) (g, u, v int) {
 	return a, u, v
 }
 
-// power squares bit by bit, so that the number of steps is that of n's bits.
-func power(a, n, m int) int {
-	answer, square := left(1, m), left(a, m)
-	for i := range bits.Len64(uint64(n)) {
-		if n>>i&1 == 1 {
-			answer = productLeft(answer, square, m)
-		}
-		square = productLeft(square, square, m)
-	}
-	return answer
-}
-
 // joinOne joins what is found so far, rest of mod, with one place more, and answers a fault's code.
 func joinOne(rest, mod, nextRest, nextMod int) (int, int, int) {
-	if !isNumber(nextRest) || nextMod < 1 || nextMod > api.MaxNum {
+	if !bound.IsNumber(nextRest) || nextMod < 1 || nextMod > api.MaxNum {
 		return 0, 0, api.ErrRange
 	}
 	g, u, _ := bezout(mod, nextMod)
@@ -197,7 +157,7 @@ func joinOne(rest, mod, nextRest, nextMod int) (int, int, int) {
 		return 0, 0, api.ErrMuch
 	}
 	// u is the inverse of mod / g by more: so many steps of mod fill the gap, and the sum stays below mod times more.
-	steps := productLeft(left(gap/g, more), u, more)
+	steps := modulo.Product(modulo.Left(gap/g, more), u, more)
 	return rest + steps*mod, mod * more, api.OK
 }
 

@@ -8,6 +8,7 @@ import (
 	"testing"
 
 	"arithmetica/api"
+	"arithmetica/sample"
 	"arithmetica/whole"
 )
 
@@ -17,44 +18,7 @@ var none = api.Fault{}
 
 func rangeAt(at int) api.Fault { return api.Fault{Code: api.ErrRange, At: at} }
 
-// edges are the numbers at which a check or a step may go wrong, those beyond the bound too.
-func edges() []int {
-	return []int{
-		math.MinInt, math.MinInt + 1, -top - 1, -top, -top + 1, -6, -2, -1, 0, 1, 2, 3, 6, 59, 60, 61,
-		1<<31 - 1, 1 << 32, 999999999, 1000000000, top/2 + 1, top - 11, top - 1, top, top + 1, math.MaxInt - 1, math.MaxInt,
-	}
-}
-
 func isNumber(n int) bool { return -top <= n && n <= top }
-
-// spread answers numbers of all lengths and both signs, the same ones each time.
-func spread(many int) []int {
-	state := uint64(20261116)
-	draw := func(below int) int {
-		state = state*6364136223846793005 + 1442695040888963407
-		return int(state>>4) % below
-	}
-	var l []int
-	for range many {
-		n := draw(top+1) >> draw(60)
-		if draw(1000) < 500 {
-			n = -n
-		}
-		l = append(l, n)
-	}
-	return l
-}
-
-// numbers are spread and the edges that are numbers.
-func numbers(many int) []int {
-	l := spread(many)
-	for _, n := range edges() {
-		if isNumber(n) {
-			l = append(l, n)
-		}
-	}
-	return l
-}
 
 func large(n int) *big.Int { return big.NewInt(int64(n)) }
 
@@ -78,8 +42,8 @@ func TestGcdOfChosenNumbers(t *testing.T) {
 }
 
 func TestGcdOfManyNumbers(t *testing.T) {
-	for _, a := range numbers(200) {
-		for _, b := range numbers(200) {
+	for _, a := range sample.Numbers(200) {
+		for _, b := range sample.Numbers(200) {
 			if got, f := whole.Gcd(a, b); got != wantGcd(a, b) || f != none {
 				t.Fatalf("Gcd(%d, %d): %d, %v, want %d", a, b, got, f, wantGcd(a, b))
 			}
@@ -89,8 +53,8 @@ func TestGcdOfManyNumbers(t *testing.T) {
 
 // TestGcdAndBezoutTellTheFirstThatIsNoNumber: ErrRange of the face, and nothing beside a fault.
 func TestGcdAndBezoutTellTheFirstThatIsNoNumber(t *testing.T) {
-	for _, a := range edges() {
-		for _, b := range edges() {
+	for _, a := range sample.Edges() {
+		for _, b := range sample.Edges() {
 			want := none
 			if !isNumber(a) {
 				want = rangeAt(0)
@@ -146,8 +110,8 @@ func TestBezoutOfManyNumbers(t *testing.T) {
 			checkBezout(t, a, b)
 		}
 	}
-	for _, a := range numbers(200) {
-		for _, b := range numbers(200) {
+	for _, a := range sample.Numbers(200) {
+		for _, b := range sample.Numbers(200) {
 			checkBezout(t, a, b)
 		}
 	}
@@ -169,9 +133,9 @@ func TestPowerOfChosenNumbers(t *testing.T) {
 }
 
 func TestPowerOfManyNumbers(t *testing.T) {
-	for _, a := range numbers(20) {
-		for _, n := range numbers(20) {
-			for _, m := range numbers(20) {
+	for _, a := range sample.Numbers(20) {
+		for _, n := range sample.Numbers(20) {
+			for _, m := range sample.Numbers(20) {
 				if n < 0 || m < 1 {
 					continue
 				}
@@ -224,8 +188,8 @@ func TestInverseOfChosenNumbers(t *testing.T) {
 }
 
 func TestInverseOfManyNumbers(t *testing.T) {
-	for _, a := range numbers(200) {
-		for _, m := range numbers(200) {
+	for _, a := range sample.Numbers(200) {
+		for _, m := range sample.Numbers(200) {
 			if m < 1 {
 				continue
 			}
@@ -344,7 +308,7 @@ func TestJoinOfAllShortLists(t *testing.T) {
 
 // TestJoinOfTwoLongOnes takes what one number leaves, so that it must come out again, left by the joint mod.
 func TestJoinOfTwoLongOnes(t *testing.T) {
-	l := numbers(150)
+	l := sample.Numbers(150)
 	for i, n := range l {
 		for j, m := range l {
 			first, second := magnitude(m), magnitude(l[(i+j)%len(l)])
@@ -396,7 +360,7 @@ func TestRootOfChosenNumbers(t *testing.T) {
 func TestRootOfManyNumbers(t *testing.T) {
 	above := func(x, k, n int) bool { return new(big.Int).Exp(large(x), large(k), nil).Cmp(large(n)) > 0 }
 	for k := 1; k <= 60; k++ {
-		for _, n := range numbers(300) {
+		for _, n := range sample.Numbers(300) {
 			n = magnitude(n)
 			got, f := whole.Root(n, k)
 			if f != none || got < 0 || above(got, k, n) || !above(got+1, k, n) {
@@ -456,9 +420,9 @@ func answers(a, b, c int) string {
 
 // TestNoCallPanics goes through all edges, those that are no numbers too (P1); the same arguments have the same answers.
 func TestNoCallPanics(t *testing.T) {
-	for _, a := range edges() {
-		for _, b := range edges() {
-			for _, c := range edges() {
+	for _, a := range sample.Edges() {
+		for _, b := range sample.Edges() {
+			for _, c := range sample.Edges() {
 				if first, second := answers(a, b, c), answers(a, b, c); first != second {
 					t.Errorf("of %d, %d, %d: %v, then %v", a, b, c, first, second)
 				}

@@ -1,0 +1,36 @@
+package bound_test
+
+import (
+	"math"
+	"testing"
+
+	"arithmetica/api"
+	"arithmetica/bound"
+)
+
+func TestIsNumberTurnsAtTheBound(t *testing.T) {
+	for n, want := range map[int]bool{
+		math.MinInt: false, -1000000000000000001: false, -1000000000000000000: true, -1: true, 0: true, 1: true,
+		1000000000000000000: true, 1000000000000000001: false, math.MaxInt: false,
+	} {
+		if got := bound.IsNumber(n); got != want {
+			t.Errorf("IsNumber(%d): %v, want %v", n, got, want)
+		}
+	}
+}
+
+func TestNumbersTellsTheFirstThatIsNone(t *testing.T) {
+	for _, c := range []struct {
+		arguments []int
+		want      api.Fault
+	}{
+		{nil, api.Fault{}},
+		{[]int{0, api.MaxNum, -api.MaxNum}, api.Fault{}},
+		{[]int{api.MaxNum + 1, 0, -api.MaxNum - 1}, api.Fault{Code: api.ErrRange, At: 0}},
+		{[]int{0, 1, -api.MaxNum - 1, math.MaxInt}, api.Fault{Code: api.ErrRange, At: 2}},
+	} {
+		if got := bound.Numbers(c.arguments...); got != c.want {
+			t.Errorf("Numbers(%v): %v, want %v", c.arguments, got, c.want)
+		}
+	}
+}

@@ -1,0 +1,32 @@
+package sample_test
+
+import (
+	"math/bits"
+	"slices"
+	"testing"
+
+	"arithmetica/api"
+	"arithmetica/sample"
+)
+
+// TestNumbersAreOfAllKinds: a sample that lost a kind of number would leave the tests that use it empty.
+func TestNumbersAreOfAllKinds(t *testing.T) {
+	list := sample.Numbers(1000)
+	for length := range 60 {
+		for _, sign := range []int{1, -1} {
+			if !slices.ContainsFunc(list, func(n int) bool { return bits.Len64(uint64(max(n, -n))) == length && sign*n >= 0 }) {
+				t.Errorf("no number of %d bits, of the sign %d", length, sign)
+			}
+		}
+	}
+	for _, n := range list {
+		if n < -api.MaxNum || n > api.MaxNum {
+			t.Errorf("%d is no number", n)
+		}
+	}
+	for _, n := range []int{-api.MaxNum, 0, 1, api.MaxNum} {
+		if !slices.Contains(list, n) {
+			t.Errorf("%d is missing", n)
+		}
+	}
+}
