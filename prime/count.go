@@ -25,10 +25,10 @@ func count(n, workers int) int {
 	return int(sum.Load())
 }
 
-// countPart answers how many primes there are from low to high - 1, for high up to the square of the greatest small prime. It strikes out the multiples of each prime from its square on: those below have a smaller prime in them.
+// countPart answers how many primes there are from low to high - 1. It strikes out the multiples of each prime from its square on: those below have a smaller prime in them.
 func countPart(low, high int) int {
 	struck := make([]bool, high-low)
-	for p := range small {
+	for p := range rising {
 		if p*p >= high {
 			break
 		}

@@ -5,14 +5,18 @@ import (
 	"arithmetica/whole"
 )
 
-// batch is how many steps of a walk are held against n together: a divisor of their product costs as much as one of a single step.
-const batch = 128
+const (
+	// mostTried is the greatest number that is tried as a divisor one by one; a walk finds greater ones sooner.
+	mostTried = 1000
+	// batch is how many steps of a walk are held against n together: a divisor of their product costs as much as one of a single step.
+	batch = 128
+)
 
 // factors answers the primes whose product is n, in no order, for n from 1 on.
 func factors(n int) []int {
 	var list []int
-	for p := range small {
-		if p*p > n {
+	for p := range rising {
+		if p > mostTried || p*p > n {
 			break
 		}
 		for n%p == 0 {
@@ -23,7 +27,7 @@ func factors(n int) []int {
 	return appendGreat(list, n)
 }
 
-// appendGreat appends the primes whose product is n, where n is 1, a prime, or a product of primes that are not small.
+// appendGreat appends the primes whose product is n, where n is 1, a prime, or a product of primes above mostTried.
 func appendGreat(list []int, n int) []int {
 	if n == 1 {
 		return list

@@ -6,20 +6,20 @@ import (
 	"arithmetica/api"
 )
 
-// The first primes are found once, at the first call that needs them, and only read after that.
+// The first primes are found once, at the first call of First, and only read after that, by First alone: all other functions work out by rising what they need of them, and so hang on nothing that is kept.
 var (
 	findOnce sync.Once
 	found    [api.MaxList]int
 )
 
-// small yields the first MaxList primes, rising. The last of them is 7919, far above the root of MaxSmall.
-func small(yield func(int) bool) {
+// copyFound answers so many of the primes that are found once, for many from 0 to MaxList.
+func copyFound(many int) []int {
 	findOnce.Do(find)
-	for i := range len(found) {
-		if !yield(found[i]) {
-			return
-		}
+	list := make([]int, many)
+	for i := range many {
+		list[i] = found[i]
 	}
+	return list
 }
 
 func find() {

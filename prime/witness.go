@@ -13,7 +13,7 @@ func isPrime(n int) bool {
 	if n < 2 {
 		return false
 	}
-	for p := range small {
+	for p := range rising {
 		if p > mostWitness {
 			break
 		}
@@ -21,7 +21,7 @@ func isPrime(n int) bool {
 			return n == p
 		}
 	}
-	for p := range small {
+	for p := range rising {
 		if p > mostWitness {
 			break
 		}
