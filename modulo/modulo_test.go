@@ -10,19 +10,8 @@ import (
 
 func large(n int) *big.Int { return big.NewInt(int64(n)) }
 
-// moduli are those of sample's numbers that may stand as m.
-func moduli(many int) []int {
-	var list []int
-	for _, m := range sample.Numbers(many) {
-		if m > 0 {
-			list = append(list, m)
-		}
-	}
-	return list
-}
-
 func TestLeftAndProductAreEuclids(t *testing.T) {
-	for _, m := range moduli(60) {
+	for _, m := range sample.Positive(60) {
 		for _, a := range sample.Numbers(60) {
 			left := modulo.Left(a, m)
 			if want := new(big.Int).Mod(large(a), large(m)); large(left).Cmp(want) != 0 {
@@ -39,9 +28,9 @@ func TestLeftAndProductAreEuclids(t *testing.T) {
 }
 
 func TestPowerIsThatOfLongNumbers(t *testing.T) {
-	for _, m := range moduli(20) {
+	for _, m := range sample.Positive(20) {
 		for _, a := range sample.Numbers(20) {
-			for _, n := range append(moduli(20), 0) {
+			for _, n := range append(sample.Positive(20), 0) {
 				want := new(big.Int).Exp(large(modulo.Left(a, m)), large(n), large(m))
 				if got := modulo.Power(a, n, m); large(got).Cmp(want) != 0 {
 					t.Fatalf("Power(%d, %d, %d): %d, want %d", a, n, m, got, want)

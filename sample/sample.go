@@ -3,6 +3,7 @@ package sample
 
 import (
 	"math"
+	"slices"
 
 	"arithmetica/api"
 )
@@ -43,4 +44,9 @@ func Numbers(many int) []int {
 		}
 	}
 	return list
+}
+
+// Positive are those of Numbers that are above 0.
+func Positive(many int) []int {
+	return slices.DeleteFunc(Numbers(many), func(n int) bool { return n <= 0 })
 }

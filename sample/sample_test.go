@@ -30,3 +30,16 @@ func TestNumbersAreOfAllKinds(t *testing.T) {
 		}
 	}
 }
+
+func TestPositiveAreThoseAboveNought(t *testing.T) {
+	want := 0
+	for _, n := range sample.Numbers(100) {
+		if n > 0 {
+			want++
+		}
+	}
+	list := sample.Positive(100)
+	if len(list) != want || slices.Min(list) != 1 || slices.Max(list) != api.MaxNum {
+		t.Errorf("%d numbers from %d to %d, want %d from 1 to MaxNum", len(list), slices.Min(list), slices.Max(list), want)
+	}
+}
