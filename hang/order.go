@@ -4,6 +4,7 @@ import (
 	"arithmetica/api"
 	"arithmetica/modulo"
 	"arithmetica/prime"
+	"arithmetica/seek"
 	"arithmetica/whole"
 )
 
@@ -45,14 +46,5 @@ func hasGenerator(powers []api.Power) bool {
 func generator(m int) int {
 	units, _ := Phi(m)
 	order := ordersBy(m)
-	return least(func(g int) bool { return isUnit(g, m) && order(g) == units })
-}
-
-// least answers the least number from 1 on that fits; its callers know that there is one.
-func least(fits func(int) bool) int {
-	n := 1
-	for !fits(n) {
-		n++
-	}
-	return n
+	return seek.Least(func(g int) bool { return isUnit(g, m) && order(g) == units })
 }
