@@ -17,3 +17,22 @@ func Numbers(arguments ...int) api.Fault {
 	}
 	return api.Fault{}
 }
+
+// IsPair tells whether both parts of x are from -MaxPart to MaxPart.
+func IsPair(x api.Pair) bool {
+	return isPart(x.A) && isPart(x.B)
+}
+
+func isPart(n int) bool {
+	return -api.MaxPart <= n && n <= api.MaxPart
+}
+
+// Pairs answers ErrRange at the first of the arguments with a part beyond its bound.
+func Pairs(arguments ...api.Pair) api.Fault {
+	for i, x := range arguments {
+		if !IsPair(x) {
+			return api.Fault{Code: api.ErrRange, At: i}
+		}
+	}
+	return api.Fault{}
+}

@@ -34,3 +34,32 @@ func TestNumbersTellsTheFirstThatIsNone(t *testing.T) {
 		}
 	}
 }
+
+func TestIsPairTurnsAtTheBoundOfEachPart(t *testing.T) {
+	for n, want := range map[int]bool{
+		math.MinInt: false, -500000001: false, -500000000: true, -1: true, 0: true, 1: true, 500000000: true, 500000001: false, math.MaxInt: false,
+	} {
+		for _, x := range []api.Pair{{A: n}, {B: n}, {A: n, B: api.MaxPart}, {A: -api.MaxPart, B: n}} {
+			if got := bound.IsPair(x); got != want {
+				t.Errorf("IsPair(%v): %v, want %v", x, got, want)
+			}
+		}
+	}
+}
+
+func TestPairsTellsTheFirstThatIsNone(t *testing.T) {
+	most, beyond := api.Pair{A: api.MaxPart, B: -api.MaxPart}, api.Pair{B: api.MaxPart + 1}
+	for _, c := range []struct {
+		arguments []api.Pair
+		want      api.Fault
+	}{
+		{nil, api.Fault{}},
+		{[]api.Pair{{}, most}, api.Fault{}},
+		{[]api.Pair{beyond, {}, beyond}, api.Fault{Code: api.ErrRange, At: 0}},
+		{[]api.Pair{{}, most, beyond, beyond}, api.Fault{Code: api.ErrRange, At: 2}},
+	} {
+		if got := bound.Pairs(c.arguments...); got != c.want {
+			t.Errorf("Pairs(%v): %v, want %v", c.arguments, got, c.want)
+		}
+	}
+}

@@ -50,3 +50,21 @@ func Numbers(many int) []int {
 func Positive(many int) []int {
 	return slices.DeleteFunc(Numbers(many), func(n int) bool { return n <= 0 })
 }
+
+// Pairs answers about so many pairs with parts of all lengths and signs, up to MaxPart, and those with edges as both parts.
+func Pairs(many int) []api.Pair {
+	const most = api.MaxPart
+	edges := []int{-most, -most + 1, -2, -1, 0, 1, 2, most - 1, most}
+	var list []api.Pair
+	for _, a := range edges {
+		for _, b := range edges {
+			list = append(list, api.Pair{A: a, B: b})
+		}
+	}
+	// About half of all lengths are those of parts.
+	parts := slices.DeleteFunc(Spread(4*many), func(n int) bool { return n < -most || n > most })
+	for both := range slices.Chunk(parts[:len(parts)/2*2], 2) {
+		list = append(list, api.Pair{A: both[0], B: both[1]})
+	}
+	return list
+}

@@ -43,3 +43,39 @@ func TestPositiveAreThoseAboveNought(t *testing.T) {
 		t.Errorf("%d numbers from %d to %d, want %d from 1 to MaxNum", len(list), slices.Min(list), slices.Max(list), want)
 	}
 }
+
+func TestPairsAreOfAllKinds(t *testing.T) {
+	const many = 5000
+	list := sample.Pairs(many)
+	if len(list) < many*9/10 || len(list) > many*11/10 {
+		t.Errorf("%d pairs, and not about %d", len(list), many)
+	}
+	for length := range 30 {
+		for quadrant := range 4 {
+			if !slices.ContainsFunc(list, func(x api.Pair) bool { return isOfKind(x, length, quadrant) }) {
+				t.Errorf("no pair of %d bits in the quadrant %d", length, quadrant)
+			}
+		}
+	}
+	for _, x := range list {
+		if max(x.A, -x.A, x.B, -x.B) > api.MaxPart {
+			t.Errorf("%v is beyond the bound", x)
+		}
+	}
+	for _, x := range []api.Pair{{}, {A: api.MaxPart, B: -api.MaxPart}, {A: -api.MaxPart, B: api.MaxPart}, {A: 1}, {B: -api.MaxPart}} {
+		if !slices.Contains(list, x) {
+			t.Errorf("%v is missing", x)
+		}
+	}
+}
+
+// isOfKind tells whether the greater part of x, in size, has so many bits, and whether x lies in the quadrant, of which 2 is where A is below 0, and 1 where B is.
+func isOfKind(x api.Pair, length, quadrant int) bool {
+	if quadrant&2 != 0 {
+		x.A = -x.A
+	}
+	if quadrant&1 != 0 {
+		x.B = -x.B
+	}
+	return x.A >= 0 && x.B >= 0 && bits.Len64(uint64(max(x.A, x.B))) == length
+}
