@@ -18,6 +18,16 @@ func Numbers(arguments ...int) api.Fault {
 	return api.Fault{}
 }
 
+// Smalls answers ErrRange at the first of the arguments that is above MaxSmall in size.
+func Smalls(arguments ...int) api.Fault {
+	for i, n := range arguments {
+		if n < -api.MaxSmall || n > api.MaxSmall {
+			return api.Fault{Code: api.ErrRange, At: i}
+		}
+	}
+	return api.Fault{}
+}
+
 // IsPair tells whether both parts of x are from -MaxPart to MaxPart.
 func IsPair(x api.Pair) bool {
 	return isPart(x.A) && isPart(x.B)

@@ -35,6 +35,24 @@ func TestNumbersTellsTheFirstThatIsNone(t *testing.T) {
 	}
 }
 
+func TestSmallsTellsTheFirstThatIsBeyond(t *testing.T) {
+	for _, c := range []struct {
+		arguments []int
+		want      api.Fault
+	}{
+		{nil, api.Fault{}},
+		{[]int{0, 1000000, -1000000}, api.Fault{}},
+		{[]int{1000001, 0, -1000001}, api.Fault{Code: api.ErrRange, At: 0}},
+		{[]int{-1000001}, api.Fault{Code: api.ErrRange, At: 0}},
+		{[]int{0, math.MinInt, math.MaxInt}, api.Fault{Code: api.ErrRange, At: 1}},
+		{[]int{1000000, 1, math.MaxInt}, api.Fault{Code: api.ErrRange, At: 2}},
+	} {
+		if got := bound.Smalls(c.arguments...); got != c.want {
+			t.Errorf("Smalls(%v): %v, want %v", c.arguments, got, c.want)
+		}
+	}
+}
+
 func TestIsPairTurnsAtTheBoundOfEachPart(t *testing.T) {
 	for n, want := range map[int]bool{
 		math.MinInt: false, -500000001: false, -500000000: true, -1: true, 0: true, 1: true, 500000000: true, 500000001: false, math.MaxInt: false,
