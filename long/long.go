@@ -1,7 +1,8 @@
-// Package long reckons with whole numbers from 0 on that no int holds.
+// Package long reckons with whole numbers that no int holds: those from 0 on, and, by these, those of both signs.
 package long
 
 import (
+	"cmp"
 	"strconv"
 	"strings"
 )
@@ -51,6 +52,53 @@ func (x Number) Times(times int) Number {
 	return Number{carried(product, carry)}
 }
 
+// Minus answers x - y, for y up to x.
+func (x Number) Minus(y Number) Number {
+	left := make([]int, len(x.limbs))
+	borrow := 0
+	for i, limb := range x.limbs {
+		limb -= y.limb(i) + borrow
+		borrow = 0
+		if limb < 0 {
+			limb += base
+			borrow = 1
+		}
+		left[i] = limb
+	}
+	return trimmed(left)
+}
+
+// Product answers x y.
+func (x Number) Product(y Number) Number {
+	product := make([]int, len(x.limbs)+len(y.limbs))
+	for i, limb := range x.limbs {
+		carry := 0
+		for j, other := range y.limbs {
+			carry += product[i+j] + limb*other
+			product[i+j] = carry % base
+			carry /= base
+		}
+		product[i+len(y.limbs)] = carry
+	}
+	return trimmed(product)
+}
+
+// Compare answers -1, 0 or 1: x is less than y, the same, or greater.
+func (x Number) Compare(y Number) int {
+	if order := cmp.Compare(len(x.limbs), len(y.limbs)); order != 0 {
+		return order
+	}
+	for i := len(x.limbs) - 1; i >= 0; i-- {
+		if order := cmp.Compare(x.limbs[i], y.limbs[i]); order != 0 {
+			return order
+		}
+	}
+	return 0
+}
+
+// IsZero tells whether x is 0.
+func (x Number) IsZero() bool { return len(x.limbs) == 0 }
+
 // String writes x in decimal.
 func (x Number) String() string {
 	last := len(x.limbs) - 1
@@ -81,4 +129,13 @@ func carried(limbs []int, carry int) []int {
 		carry /= base
 	}
 	return limbs
+}
+
+// trimmed answers the Number of limbs without the noughts behind them.
+func trimmed(limbs []int) Number {
+	length := len(limbs)
+	for length > 0 && limbs[length-1] == 0 {
+		length--
+	}
+	return Number{limbs[:length]}
 }
