@@ -7,6 +7,7 @@ import (
 
 	"arithmetica/api"
 	"arithmetica/grid"
+	"arithmetica/sample"
 )
 
 // wantCheck is P12.1, sentence by sentence.
@@ -27,60 +28,6 @@ func wantCheck(m [][]int) api.Fault {
 	return none
 }
 
-// beyond are numbers that are above MaxSmall in size.
-func beyond() []int {
-	return []int{small + 1, -small - 1, 2 * small, -2 * small, api.MaxNum, -api.MaxNum, math.MaxInt, math.MinInt, math.MinInt + 1, 1 << 32, -1 << 32, 1<<32 + 1}
-}
-
-func ones(rows, columns int) [][]int {
-	return filled(rows, columns, func(i, j int) int { return 1 + i*j })
-}
-
-// with answers m with one entry of another value.
-func with(m [][]int, i, j, value int) [][]int {
-	m = clone(m)
-	m[i][j] = value
-	return m
-}
-
-// longer answers m with one row of so many entries.
-func longer(m [][]int, i, length int) [][]int {
-	m = clone(m)
-	m[i] = make([]int, length)
-	return m
-}
-
-// wrong answers matrices with one fault or several.
-func wrong() [][][]int {
-	list := [][][]int{nil, {}, {nil}, {{}}, {{}, {}}, {nil, {1}}, {{}, {1}, {1, 2}}, {{small + 1}, {}}, {{}, {small + 1}}, {{small + 1, 0}, {small + 1}}}
-	for _, rows := range []int{9, 10, 16, 64, 1000, 100000} {
-		list = append(list, ones(rows, 1), ones(rows, 8), ones(rows, 9), ones(1, rows), ones(2, rows), ones(8, rows), make([][]int, rows), with(ones(rows, 2), 0, 0, small+1), with(ones(3, rows), 0, 0, small+1), longer(ones(rows, 2), 1, 3))
-	}
-	for rows := 1; rows <= 8; rows++ {
-		for columns := 1; columns <= 8; columns++ {
-			m := ones(rows, columns)
-			list = append(list, longer(m, 0, 9), longer(m, 0, 0))
-			for i := 1; i < rows; i++ {
-				list = append(list, longer(m, i, 0), longer(m, i, columns-1), longer(m, i, columns+1), longer(m, i, 9), longer(longer(m, i, 0), rows-1, 9))
-				// the row ahead has an entry that is too great, but that is told later
-				list = append(list, longer(with(m, i-1, columns-1, small+1), i, columns+1), longer(with(m, 0, 0, math.MinInt), i, 0))
-			}
-			for i := range rows {
-				value := beyond()[(rows+columns+i)%len(beyond())]
-				list = append(list, with(m, i, 0, value), with(m, i, columns-1, -small-1), with(m, i, columns/2, small+1), with(with(m, i, 0, small+1), rows-1, columns-1, value))
-			}
-		}
-	}
-	for _, value := range beyond() {
-		for i := range 3 {
-			for j := range 3 {
-				list = append(list, with(ones(3, 3), i, j, value), with(with(ones(3, 3), i, j, value), 2-i, 2-j, -small-1))
-			}
-		}
-	}
-	return list
-}
-
 func TestCheckOfRightMatrices(t *testing.T) {
 	for _, m := range matrices() {
 		if f := grid.Check(m); f != none || wantCheck(m) != none {
@@ -91,7 +38,7 @@ func TestCheckOfRightMatrices(t *testing.T) {
 
 func TestCheckTellsItsFaultsInOrder(t *testing.T) {
 	outcomes := map[api.Fault]int{}
-	for _, m := range wrong() {
+	for _, m := range sample.Spoilt(8) {
 		f := grid.Check(m)
 		if want := wantCheck(m); f != want || f == none {
 			t.Fatalf("Check of %d rows: %v, want %v: %.200v", len(m), f, want, m)
@@ -110,7 +57,7 @@ func TestCheckOfChosenMatrices(t *testing.T) {
 		want api.Fault
 	}{
 		{[][]int{{0}}, none},
-		{ones(8, 8), none},
+		{sample.Ones(8, 8), none},
 		{[][]int{{small, -small}}, none},
 		{[][]int{{1, 2}, {3}}, faultOf(8, 1)},
 		{[][]int{{1}, {3}, {4}, {5, 6}, {}}, faultOf(8, 3)},
@@ -119,8 +66,8 @@ func TestCheckOfChosenMatrices(t *testing.T) {
 		{[][]int{{small + 1, 2}, {3, 4}, {5}}, faultOf(8, 2)},
 		{nil, faultOf(2, 0)},
 		{[][]int{{}}, faultOf(2, 0)},
-		{ones(9, 1), faultOf(2, 0)},
-		{ones(1, 9), faultOf(2, 0)},
+		{sample.Ones(9, 1), faultOf(2, 0)},
+		{sample.Ones(1, 9), faultOf(2, 0)},
 	} {
 		if f := grid.Check(c.m); f != c.want {
 			t.Errorf("Check(%v): %v, want %v", c.m, f, c.want)
@@ -147,7 +94,7 @@ func checkFaults(t *testing.T, m [][]int, b []int, want api.Fault) {
 
 // TestAllTellWhatCheckSaysFirst: ahead of what is not square, and of what is wrong with b.
 func TestAllTellWhatCheckSaysFirst(t *testing.T) {
-	for i, m := range wrong() {
+	for i, m := range sample.Spoilt(8) {
 		right := make([]int, len(m))
 		checkFaults(t, m, [][]int{right, nil, {1, 2}, {small + 1}, {1, 2, 3, 4, 5, 6, 7, 8, 9}}[i%5], wantCheck(m))
 		checkFaults(t, m, right, wantCheck(m))
@@ -161,7 +108,7 @@ func TestDetTellsWhatIsNotSquare(t *testing.T) {
 			if rows != columns {
 				want = faultOf(api.ErrKind, 0)
 			}
-			for _, m := range [][][]int{ones(rows, columns), filled(rows, columns, func(i, j int) int { return 0 }), with(ones(rows, columns), rows-1, columns-1, -small)} {
+			for _, m := range [][][]int{sample.Ones(rows, columns), sample.Filled(rows, columns, func(i, j int) int { return 0 }), sample.With(sample.Ones(rows, columns), rows-1, columns-1, -small)} {
 				if text, f := grid.Det(m); f != want || (text == "") != (f != none) {
 					t.Errorf("Det(%v): %q, %v, want %v", m, text, f, want)
 				}
@@ -191,12 +138,12 @@ func TestSolveTellsWhatIsWrongWithB(t *testing.T) {
 		for length := 1; length <= 10; length++ {
 			lists = append(lists, make([]int, length), slices.Repeat([]int{small}, length), slices.Repeat([]int{-small}, length))
 			for i := range length {
-				for _, value := range beyond() {
-					lists = append(lists, with(ones(1, length), 0, i, value)[0], with(with(ones(1, length), 0, i, value), 0, length-1, small+1)[0])
+				for _, value := range sample.Beyond() {
+					lists = append(lists, sample.With(sample.Ones(1, length), 0, i, value)[0], sample.With(sample.With(sample.Ones(1, length), 0, i, value), 0, length-1, small+1)[0])
 				}
 			}
 		}
-		for _, m := range [][][]int{ones(rows, 1), ones(rows, rows), ones(rows, 8), filled(rows, 3, func(i, j int) int { return 0 }), filled(rows, 2, func(i, j int) int { return small })} {
+		for _, m := range [][][]int{sample.Ones(rows, 1), sample.Ones(rows, rows), sample.Ones(rows, 8), sample.Filled(rows, 3, func(i, j int) int { return 0 }), sample.Filled(rows, 2, func(i, j int) int { return small })} {
 			for _, b := range lists {
 				want := wantOfB(m, b)
 				x, k, f := grid.Solve(m, b)

@@ -5,6 +5,7 @@ import (
 	"testing"
 
 	"arithmetica/grid"
+	"arithmetica/sample"
 )
 
 func checkDet(t *testing.T, m [][]int, want string) {
@@ -38,7 +39,7 @@ func TestDetOfAllSmallMatrices(t *testing.T) {
 		checkDet(t, [][]int{{a, b}, {c, d}}, large(a*d-b*c).String())
 	}
 	for n := range 19683 {
-		m := filled(3, 3, func(i, j int) int {
+		m := sample.Filled(3, 3, func(i, j int) int {
 			entry := n%3 - 1
 			n /= 3
 			return entry
@@ -79,9 +80,9 @@ func TestDetOfProducts(t *testing.T) {
 	s := newStream()
 	for n := range 400 {
 		size := n%8 + 1
-		a := filled(size, size, func(i, j int) int { return s.upTo(300) })
-		b := filled(size, size, func(i, j int) int { return s.upTo(300) })
-		both := filled(size, size, func(i, j int) int {
+		a := sample.Filled(size, size, func(i, j int) int { return s.UpTo(300) })
+		b := sample.Filled(size, size, func(i, j int) int { return s.UpTo(300) })
+		both := sample.Filled(size, size, func(i, j int) int {
 			sum := 0
 			for k := range size {
 				sum += a[i][k] * b[k][j]

@@ -1,7 +1,6 @@
 package grid_test
 
 import (
-	"fmt"
 	"math/big"
 	"slices"
 	"testing"
@@ -195,42 +194,16 @@ func divisorOfMinors(m bigs, size int) *big.Int {
 	return common
 }
 
-// stream hands out numbers one after the other, the same ones each time.
-type stream struct {
-	list []int
-	at   int
-}
+// stream is one of numbers, by which matrices are made.
+type stream struct{ *sample.Stream }
 
-func newStream() *stream { return &stream{list: sample.Spread(60000)} }
-
-// upTo answers a number of any length, from -most to most.
-func (s *stream) upTo(most int) int {
-	s.at++
-	return s.list[s.at%len(s.list)] % (most + 1)
-}
-
-// below answers a number from 0 to n - 1.
-func (s *stream) below(n int) int {
-	x := s.upTo(api.MaxNum - 1)
-	return max(x, -x) % n
-}
-
-// filled answers a matrix whose entries are told one by one.
-func filled(rows, columns int, entry func(i, j int) int) [][]int {
-	m := make([][]int, rows)
-	for i := range m {
-		for j := range columns {
-			m[i] = append(m[i], entry(i, j))
-		}
-	}
-	return m
-}
+func newStream() stream { return stream{sample.NewStream()} }
 
 // ofRank answers a matrix whose rank is at most so many: the rows are sums of few ones.
-func (s *stream) ofRank(rows, columns, rank, most int) [][]int {
-	left := filled(rows, rank, func(i, j int) int { return s.upTo(most) })
-	right := filled(rank, columns, func(i, j int) int { return s.upTo(most) })
-	return filled(rows, columns, func(i, j int) int {
+func (s stream) ofRank(rows, columns, rank, most int) [][]int {
+	left := sample.Filled(rows, rank, func(i, j int) int { return s.UpTo(most) })
+	right := sample.Filled(rank, columns, func(i, j int) int { return s.UpTo(most) })
+	return sample.Filled(rows, columns, func(i, j int) int {
 		sum := 0
 		for k := range rank {
 			sum += left[i][k] * right[k][j]
@@ -240,48 +213,48 @@ func (s *stream) ofRank(rows, columns, rank, most int) [][]int {
 }
 
 // shape answers matrices of so many rows and columns, of all kinds.
-func (s *stream) shape(rows, columns int) [][][]int {
-	either := func(n int) int { return n * (1 - 2*s.below(2)) }
+func (s stream) shape(rows, columns int) [][][]int {
+	either := func(n int) int { return n * (1 - 2*s.Below(2)) }
 	several := []int{2, 3, 4, 6, 12, 30, 36, 210, 2310, 30030}
-	common := several[s.below(len(several))]
+	common := several[s.Below(len(several))]
 	list := [][][]int{
-		filled(rows, columns, func(i, j int) int { return 0 }),
-		filled(rows, columns, func(i, j int) int { return small }),
-		filled(rows, columns, func(i, j int) int { return either(small) }),
-		filled(rows, columns, func(i, j int) int { return either(small - s.below(1000)) }),
-		filled(rows, columns, func(i, j int) int { return s.upTo(small) }),
-		filled(rows, columns, func(i, j int) int { return s.upTo(1) }),
-		filled(rows, columns, func(i, j int) int { return s.upTo(3) }),
-		filled(rows, columns, func(i, j int) int { return s.upTo(100) }),
-		filled(rows, columns, func(i, j int) int { return common * s.upTo(small/common) }),
-		filled(rows, columns, func(i, j int) int { return several[s.below(len(several))] * s.upTo(30) }),
-		filled(rows, columns, func(i, j int) int { return 1000*i + j }),
-		filled(rows, columns, func(i, j int) int { return i*columns + j + 1 }),
+		sample.Filled(rows, columns, func(i, j int) int { return 0 }),
+		sample.Filled(rows, columns, func(i, j int) int { return small }),
+		sample.Filled(rows, columns, func(i, j int) int { return either(small) }),
+		sample.Filled(rows, columns, func(i, j int) int { return either(small - s.Below(1000)) }),
+		sample.Filled(rows, columns, func(i, j int) int { return s.UpTo(small) }),
+		sample.Filled(rows, columns, func(i, j int) int { return s.UpTo(1) }),
+		sample.Filled(rows, columns, func(i, j int) int { return s.UpTo(3) }),
+		sample.Filled(rows, columns, func(i, j int) int { return s.UpTo(100) }),
+		sample.Filled(rows, columns, func(i, j int) int { return common * s.UpTo(small/common) }),
+		sample.Filled(rows, columns, func(i, j int) int { return several[s.Below(len(several))] * s.UpTo(30) }),
+		sample.Filled(rows, columns, func(i, j int) int { return 1000*i + j }),
+		sample.Filled(rows, columns, func(i, j int) int { return i*columns + j + 1 }),
 		// only the diagonal, and only what is right of it, or left of it
-		filled(rows, columns, func(i, j int) int {
+		sample.Filled(rows, columns, func(i, j int) int {
 			if i == j {
-				return either(several[s.below(len(several))])
+				return either(several[s.Below(len(several))])
 			}
 			return 0
 		}),
-		filled(rows, columns, func(i, j int) int {
+		sample.Filled(rows, columns, func(i, j int) int {
 			if i == j {
 				return 30030
 			}
-			return max(0, j-i) * s.upTo(1000)
+			return max(0, j-i) * s.UpTo(1000)
 		}),
-		filled(rows, columns, func(i, j int) int {
+		sample.Filled(rows, columns, func(i, j int) int {
 			if i == j {
 				return 510510
 			}
-			return max(0, i-j) * s.upTo(1000)
+			return max(0, i-j) * s.UpTo(1000)
 		}),
 		// the same row again, its opposite and its double; noughts between
-		filled(rows, columns, func(i, j int) int { return []int{j - 3, 0, 3 - j, 2*j - 6}[i%4] }),
-		filled(rows, columns, func(i, j int) int { return []int{0, i + 2, 0, 5}[j%4] }),
-		filled(rows, columns, func(i, j int) int { return (i % 2) * s.upTo(small) }),
+		sample.Filled(rows, columns, func(i, j int) int { return []int{j - 3, 0, 3 - j, 2*j - 6}[i%4] }),
+		sample.Filled(rows, columns, func(i, j int) int { return []int{0, i + 2, 0, 5}[j%4] }),
+		sample.Filled(rows, columns, func(i, j int) int { return (i % 2) * s.UpTo(small) }),
 		// one entry alone
-		filled(rows, columns, func(i, j int) int {
+		sample.Filled(rows, columns, func(i, j int) int {
 			if i == rows/2 && j == columns/2 {
 				return -small
 			}
@@ -296,7 +269,7 @@ func (s *stream) shape(rows, columns int) [][][]int {
 
 // hadamard answers the matrix of eight rows and MaxSmall in size whose determinant is the greatest that there is.
 func hadamard() [][]int {
-	return filled(8, 8, func(i, j int) int {
+	return sample.Filled(8, 8, func(i, j int) int {
 		both := i & j
 		if (both^both>>1^both>>2)&1 == 1 {
 			return -small
@@ -342,30 +315,4 @@ func steep() [][][]int {
 		list = append(list, [][]int{{ahead * 30, 1}, {0, 510510}}, [][]int{{ahead * 210, 17}, {510510, 0}}, [][]int{{510510, 1, 0}, {0, 510510, ahead}, {0, 0, 510510}})
 	}
 	return list
-}
-
-// clone copies m, and lays a foreign number behind each row's length and a foreign row behind the rows'.
-func clone(m [][]int) [][]int {
-	answer := make([][]int, 0, len(m)+2)
-	for _, row := range m {
-		answer = append(answer, cloneRow(row))
-	}
-	_ = append(answer, []int{77, 78})
-	return answer
-}
-
-func cloneRow(row []int) []int {
-	answer := make([]int, len(row), len(row)+2)
-	copy(answer, row)
-	_ = append(answer, 99, 98)
-	return answer
-}
-
-// whole tells all that lies in the memory of m, behind its lengths, too.
-func whole(m [][]int) string {
-	text := ""
-	for _, row := range m[:cap(m)] {
-		text += fmt.Sprintln(len(row), row[:cap(row)])
-	}
-	return text
 }

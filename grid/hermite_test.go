@@ -6,6 +6,7 @@ import (
 	"testing"
 
 	"arithmetica/grid"
+	"arithmetica/sample"
 )
 
 // pivotOf answers where the first number of row that is not 0 stands; -1, if there is none.
@@ -113,14 +114,14 @@ func TestHermiteOfTheSameSums(t *testing.T) {
 	s := newStream()
 	for n := range 600 {
 		rows, columns := n%8+1, n/8%8+1
-		m := filled(rows, columns, func(i, j int) int { return s.upTo(1000) })
+		m := sample.Filled(rows, columns, func(i, j int) int { return s.UpTo(1000) })
 		if n%3 == 0 {
-			m = s.ofRank(rows, columns, 1+s.below(min(rows, columns)), 9)
+			m = s.ofRank(rows, columns, 1+s.Below(min(rows, columns)), 9)
 		}
 		want := checkHermite(t, m)
-		other := clone(m)
+		other := sample.Guarded(m)
 		for range 12 {
-			i, j := s.below(rows), s.below(rows)
+			i, j := s.Below(rows), s.Below(rows)
 			for column := range other[i] {
 				if i == j {
 					other[i][column] *= -1

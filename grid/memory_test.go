@@ -6,6 +6,7 @@ import (
 	"testing"
 
 	"arithmetica/grid"
+	"arithmetica/sample"
 )
 
 // answers answers all lists of texts that the calls answer of m and b.
@@ -18,23 +19,23 @@ func answers(m [][]int, b []int) [][][]string {
 
 // TestWhatIsHandedInStaysAsItIs: behind the lengths, too.
 func TestWhatIsHandedInStaysAsItIs(t *testing.T) {
-	for _, m := range append(matrices(), wrong()...) {
+	for _, m := range append(matrices(), sample.Spoilt(8)...) {
 		if len(m) > 20 {
 			continue
 		}
-		m := clone(m)
-		b := cloneRow(make([]int, len(m)))
+		m := sample.Guarded(m)
+		b := sample.GuardedRow(make([]int, len(m)))
 		for i, row := range m {
 			if len(row) > 0 {
 				b[i] = row[0] % small
 			}
 		}
-		before, ofB := whole(m), whole([][]int{b})
+		before, ofB := fmt.Sprint(sample.Memory(m)), fmt.Sprint(sample.Memory([][]int{b}))
 		grid.Check(m)
 		grid.Det(m)
 		answers(m, b)
-		if whole(m) != before || whole([][]int{b}) != ofB {
-			t.Fatalf("what was\n%sis now\n%sand b, which was %s, is %s", before, whole(m), ofB, whole([][]int{b}))
+		if fmt.Sprint(sample.Memory(m)) != before || fmt.Sprint(sample.Memory([][]int{b})) != ofB {
+			t.Fatalf("what was %s is now %v, and b, which was %s, is %v", before, sample.Memory(m), ofB, sample.Memory([][]int{b}))
 		}
 	}
 }
@@ -47,7 +48,7 @@ func TestWhatLiesBehindALengthIsNotRead(t *testing.T) {
 		for i, row := range m {
 			plain[i] = slices.Clip(slices.Clone(row))
 		}
-		if fmt.Sprint(answers(clone(m), cloneRow(b))) != fmt.Sprint(answers(plain, slices.Clip(slices.Clone(b)))) {
+		if fmt.Sprint(answers(sample.Guarded(m), sample.GuardedRow(b))) != fmt.Sprint(answers(plain, slices.Clip(slices.Clone(b)))) {
 			t.Fatalf("the answers differ for %v", m)
 		}
 	}
@@ -55,7 +56,7 @@ func TestWhatLiesBehindALengthIsNotRead(t *testing.T) {
 
 // TestNoTwoListsOfAnAnswerShareMemory: each may be written over, behind its length too, and the others stay as they are.
 func TestNoTwoListsOfAnAnswerShareMemory(t *testing.T) {
-	for _, m := range append(matrices()[:14], ones(8, 8), hadamard(), ones(3, 8), ones(8, 3), [][]int{{0, 0, 0, 0, 0}}, [][]int{{1, 0, 0}, {0, 1, 0}, {0, 0, 1}}) {
+	for _, m := range append(matrices()[:14], sample.Ones(8, 8), hadamard(), sample.Ones(3, 8), sample.Ones(8, 3), [][]int{{0, 0, 0, 0, 0}}, [][]int{{1, 0, 0}, {0, 1, 0}, {0, 0, 1}}) {
 		b := turned(m)[0]
 		want := answers(m, b)
 		got := answers(m, b)

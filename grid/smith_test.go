@@ -5,6 +5,7 @@ import (
 	"testing"
 
 	"arithmetica/grid"
+	"arithmetica/sample"
 )
 
 // divides tells whether x divides y; all divide 0, and 0 divides 0 alone.
@@ -97,7 +98,7 @@ func TestSmithOfChosenMatrices(t *testing.T) {
 	checkNumbers(t, [][]int{{6, 0, 0}, {0, 10, 0}, {0, 0, 15}}, 1, 30, 30)
 	checkNumbers(t, [][]int{{2, 4, 4}, {-6, 6, 12}, {10, -4, -16}}, 2, 6, 12)
 	checkNumbers(t, [][]int{{1, 2, 3}, {4, 5, 6}, {7, 8, 9}}, 1, 3, 0)
-	checkNumbers(t, filled(8, 8, func(i, j int) int { return small }), small, 0, 0, 0, 0, 0, 0, 0)
+	checkNumbers(t, sample.Filled(8, 8, func(i, j int) int { return small }), small, 0, 0, 0, 0, 0, 0, 0)
 	checkNumbers(t, hadamard(), small, 2*small, 2*small, 2*small, 4*small, 4*small, 4*small, 8*small)
 }
 
@@ -110,10 +111,10 @@ func TestSmithOfHiddenNumbers(t *testing.T) {
 		var want []int
 		last := 1
 		for range min(rows, columns) {
-			last *= []int{1, 1, 1, 2, 3, 6, 1, 0}[s.below(8)]
+			last *= []int{1, 1, 1, 2, 3, 6, 1, 0}[s.Below(8)]
 			want = append(want, last)
 		}
-		m := filled(rows, columns, func(i, j int) int {
+		m := sample.Filled(rows, columns, func(i, j int) int {
 			if i == j {
 				return want[i]
 			}
@@ -136,12 +137,12 @@ func TestSmithOfHiddenNumbers(t *testing.T) {
 }
 
 // mix adds one row of m to another one, or takes it away, and swaps them.
-func mix(m [][]int, s *stream) {
-	i, j := s.below(len(m)), s.below(len(m))
+func mix(m [][]int, s stream) {
+	i, j := s.Below(len(m)), s.Below(len(m))
 	if i == j {
 		return
 	}
-	sign := 1 - 2*s.below(2)
+	sign := 1 - 2*s.Below(2)
 	for column := range m[i] {
 		m[i][column] += sign * m[j][column]
 	}

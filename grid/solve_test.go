@@ -5,6 +5,7 @@ import (
 	"testing"
 
 	"arithmetica/grid"
+	"arithmetica/sample"
 )
 
 func column(b []int) bigs { return turned(bigsOf([][]int{b})) }
@@ -87,14 +88,14 @@ func TestSolveOfMatricesOfAllShapes(t *testing.T) {
 	s := newStream()
 	solved, unsolved := 0, 0
 	for _, m := range append(matrices(), steep()...) {
-		x := filled(1, len(m[0]), func(i, j int) int { return s.upTo(4) })[0]
+		x := sample.Filled(1, len(m[0]), func(i, j int) int { return s.UpTo(4) })[0]
 		lists := [][]int{
 			make([]int, len(m)),
 			mean(m, x),
-			filled(1, len(m), func(i, j int) int { return s.upTo(small) })[0],
-			filled(1, len(m), func(i, j int) int { return small * (1 - 2*s.below(2)) })[0],
-			filled(1, len(m), func(i, j int) int { return s.upTo(3) })[0],
-			turned(m)[s.below(len(m[0]))],
+			sample.Filled(1, len(m), func(i, j int) int { return s.UpTo(small) })[0],
+			sample.Filled(1, len(m), func(i, j int) int { return small * (1 - 2*s.Below(2)) })[0],
+			sample.Filled(1, len(m), func(i, j int) int { return s.UpTo(3) })[0],
+			turned(m)[s.Below(len(m[0]))],
 		}
 		for i, b := range lists {
 			if grid.Check([][]int{b}) != none {
@@ -137,7 +138,7 @@ func smallOnes() [][][]int {
 	for rows := 1; rows <= 4; rows++ {
 		for columns := 1; columns <= 4; columns++ {
 			for most := 1; most <= 4; most++ {
-				list = append(list, filled(rows, columns, func(i, j int) int { return s.upTo(most) }), s.ofRank(rows, columns, 1, most), s.ofRank(rows, columns, 2, most))
+				list = append(list, sample.Filled(rows, columns, func(i, j int) int { return s.UpTo(most) }), s.ofRank(rows, columns, 1, most), s.ofRank(rows, columns, 2, most))
 			}
 		}
 	}
@@ -233,12 +234,12 @@ func TestKernelByTryingAll(t *testing.T) {
 func TestSolveOfOneRow(t *testing.T) {
 	s := newStream()
 	for n := range 500 {
-		m := filled(1, n%8+1, func(i, j int) int { return s.upTo(small) / (n%5 + 1) * (n%5 + 1) })
+		m := sample.Filled(1, n%8+1, func(i, j int) int { return s.UpTo(small) / (n%5 + 1) * (n%5 + 1) })
 		common := new(big.Int)
 		for _, entry := range bigsOf(m)[0] {
 			common.GCD(nil, nil, common, new(big.Int).Abs(entry))
 		}
-		for _, b := range []int{0, 1, -1, 2, 3, 12, 60, small, -small, s.upTo(small), int(common.Int64()), -int(common.Int64())} {
+		for _, b := range []int{0, 1, -1, 2, 3, 12, 60, small, -small, s.UpTo(small), int(common.Int64()), -int(common.Int64())} {
 			if _, ok := checkSolve(t, m, []int{b}); ok != divides(common, large(b)) {
 				t.Fatalf("Solve(%v, %d): %v", m, b, ok)
 			}

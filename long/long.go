@@ -99,6 +99,15 @@ func (x Number) Compare(y Number) int {
 // IsZero tells whether x is 0.
 func (x Number) IsZero() bool { return len(x.limbs) == 0 }
 
+// Int answers x, up to math.MaxInt, as an int.
+func (x Number) Int() int {
+	n := 0
+	for i := len(x.limbs) - 1; i >= 0; i-- {
+		n = n*base + x.limbs[i]
+	}
+	return n
+}
+
 // String writes x in decimal.
 func (x Number) String() string {
 	last := len(x.limbs) - 1

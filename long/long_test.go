@@ -105,6 +105,21 @@ func TestOfIsWrittenInDecimal(t *testing.T) {
 	}
 }
 
+func TestIntsComeBackAsTheyWere(t *testing.T) {
+	for _, x := range starts() {
+		n := int(x.want.Int64())
+		if got := x.number.Int(); got != n {
+			t.Errorf("%d comes back as %d", n, got)
+		}
+		if got := long.SignedOf(n).Int(); got != n {
+			t.Errorf("%d comes back as %d", n, got)
+		}
+		if got := long.SignedOf(-n).Int(); got != -n {
+			t.Errorf("%d comes back as %d", -n, got)
+		}
+	}
+}
+
 func TestSumsAndProductsAreThoseOfLongNumbers(t *testing.T) {
 	for _, x := range starts() {
 		for _, y := range starts() {

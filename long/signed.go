@@ -60,6 +60,9 @@ func (x Signed) Divide(y Signed) (quotient, rest Signed) {
 	return signed(size.Plus(Of(1)), true), signed(y.size.Minus(left), y.below)
 }
 
+// Int answers x, from -math.MaxInt to math.MaxInt, as an int.
+func (x Signed) Int() int { return x.Sign() * x.size.Int() }
+
 // String writes x in decimal, - ahead if it is below 0.
 func (x Signed) String() string {
 	if x.below {

@@ -1,4 +1,4 @@
-// Package sample holds numbers that the tests of several packages try; the program itself does not need it.
+// Package sample holds numbers and matrices that the tests of several packages try; the program itself does not need it.
 package sample
 
 import (
