@@ -8,24 +8,24 @@ func IsNumber(n int) bool {
 	return -api.MaxNum <= n && n <= api.MaxNum
 }
 
-// Numbers answers ErrRange at the first of the arguments that is no number.
-func Numbers(arguments ...int) api.Fault {
+// Within answers ErrRange at the first of the arguments that is above most in size.
+func Within(most int, arguments ...int) api.Fault {
 	for i, n := range arguments {
-		if !IsNumber(n) {
+		if n < -most || n > most {
 			return api.Fault{Code: api.ErrRange, At: i}
 		}
 	}
 	return api.Fault{}
 }
 
+// Numbers answers ErrRange at the first of the arguments that is no number.
+func Numbers(arguments ...int) api.Fault {
+	return Within(api.MaxNum, arguments...)
+}
+
 // Smalls answers ErrRange at the first of the arguments that is above MaxSmall in size.
 func Smalls(arguments ...int) api.Fault {
-	for i, n := range arguments {
-		if n < -api.MaxSmall || n > api.MaxSmall {
-			return api.Fault{Code: api.ErrRange, At: i}
-		}
-	}
-	return api.Fault{}
+	return Within(api.MaxSmall, arguments...)
 }
 
 // IsPair tells whether both parts of x are from -MaxPart to MaxPart.

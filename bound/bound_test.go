@@ -35,6 +35,27 @@ func TestNumbersTellsTheFirstThatIsNone(t *testing.T) {
 	}
 }
 
+func TestWithinTellsTheFirstThatIsBeyond(t *testing.T) {
+	for _, c := range []struct {
+		most      int
+		arguments []int
+		want      api.Fault
+	}{
+		{5, nil, api.Fault{}},
+		{0, []int{0, 0}, api.Fault{}},
+		{0, []int{0, 1}, api.Fault{Code: api.ErrRange, At: 1}},
+		{5, []int{5, -5, 0}, api.Fault{}},
+		{5, []int{6, -6}, api.Fault{Code: api.ErrRange, At: 0}},
+		{5, []int{5, -6, 6}, api.Fault{Code: api.ErrRange, At: 1}},
+		{5, []int{math.MinInt}, api.Fault{Code: api.ErrRange, At: 0}},
+		{math.MaxInt, []int{math.MaxInt, -math.MaxInt, math.MinInt}, api.Fault{Code: api.ErrRange, At: 2}},
+	} {
+		if got := bound.Within(c.most, c.arguments...); got != c.want {
+			t.Errorf("Within(%d, %v): %v, want %v", c.most, c.arguments, got, c.want)
+		}
+	}
+}
+
 func TestSmallsTellsTheFirstThatIsBeyond(t *testing.T) {
 	for _, c := range []struct {
 		arguments []int
