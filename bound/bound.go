@@ -8,14 +8,19 @@ func IsNumber(n int) bool {
 	return -api.MaxNum <= n && n <= api.MaxNum
 }
 
-// Within answers ErrRange at the first of the arguments that is above most in size.
-func Within(most int, arguments ...int) api.Fault {
+// Between answers ErrRange at the first of the arguments that is not from least to most.
+func Between(least, most int, arguments ...int) api.Fault {
 	for i, n := range arguments {
-		if n < -most || n > most {
+		if n < least || n > most {
 			return api.Fault{Code: api.ErrRange, At: i}
 		}
 	}
 	return api.Fault{}
+}
+
+// Within answers ErrRange at the first of the arguments that is above most in size.
+func Within(most int, arguments ...int) api.Fault {
+	return Between(-most, most, arguments...)
 }
 
 // Numbers answers ErrRange at the first of the arguments that is no number.

@@ -35,6 +35,27 @@ func TestNumbersTellsTheFirstThatIsNone(t *testing.T) {
 	}
 }
 
+func TestBetweenTellsTheFirstThatIsBeyond(t *testing.T) {
+	for _, c := range []struct {
+		least, most int
+		arguments   []int
+		want        api.Fault
+	}{
+		{1, 5, nil, api.Fault{}},
+		{1, 5, []int{1, 5, 3}, api.Fault{}},
+		{1, 5, []int{0, 6}, api.Fault{Code: api.ErrRange, At: 0}},
+		{1, 5, []int{5, 6, 0}, api.Fault{Code: api.ErrRange, At: 1}},
+		{0, 5, []int{0, 1, -1}, api.Fault{Code: api.ErrRange, At: 2}},
+		{0, 0, []int{0}, api.Fault{}},
+		{0, 5, []int{math.MinInt}, api.Fault{Code: api.ErrRange, At: 0}},
+		{math.MinInt, math.MaxInt, []int{math.MinInt, math.MaxInt}, api.Fault{}},
+	} {
+		if got := bound.Between(c.least, c.most, c.arguments...); got != c.want {
+			t.Errorf("Between(%d, %d, %v): %v, want %v", c.least, c.most, c.arguments, got, c.want)
+		}
+	}
+}
+
 func TestWithinTellsTheFirstThatIsBeyond(t *testing.T) {
 	for _, c := range []struct {
 		most      int
