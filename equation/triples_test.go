@@ -9,7 +9,7 @@ import (
 	"arithmetica/equation"
 )
 
-// triedTriples tries all a, b with a b below most, and answers those with a c up to most, in the order of P16.2.
+// triedTriples tries all a and b below most, and answers those that have a c up to most, in the order of P16.2.
 func triedTriples(most int) [][3]int {
 	var list [][3]int
 	for a := 1; a < most; a++ {
