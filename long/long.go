@@ -27,9 +27,10 @@ func Of(n int) Number {
 
 // Plus answers x + y.
 func (x Number) Plus(y Number) Number {
-	var sum []int
+	length := max(len(x.limbs), len(y.limbs))
+	sum := make([]int, 0, length+1)
 	carry := 0
-	for i := range max(len(x.limbs), len(y.limbs)) {
+	for i := range length {
 		carry += x.limb(i) + y.limb(i)
 		sum = append(sum, carry%base)
 		carry /= base
@@ -42,7 +43,7 @@ func (x Number) Times(times int) Number {
 	if times == 0 {
 		return Number{}
 	}
-	var product []int
+	product := make([]int, 0, len(x.limbs)+1)
 	carry := 0
 	for _, limb := range x.limbs {
 		carry += limb * times
