@@ -175,9 +175,10 @@ func TestProofsLeanOnLinesAhead(t *testing.T) {
 		question string
 		least    int
 	}{
-		{"prime 3", 1}, {"prime 7", 2}, {"prime 999999999999999989", 3}, {"factor 1", 1}, {"factor 8", 1}, {"factor 63", 3}, {"none 3 7", 3}, {"order 2 7", 3}, {"root 2 7", 1}, {"squares 7", 1},
+		{"prime 3", 1}, {"prime 7", 2}, {"prime 999999999999999989", 3}, {"factor 1", 1}, {"factor 8", 1}, {"factor 63", 3}, {"none 3 7", 3}, {"order 2 7", 3}, {"factor 614889782588491410", 15}, {"root 2 7", 1}, {"squares 7", 1},
 	} {
-		if lines := proven(t, x.question, true); len(lines) < x.least {
+		lines := proven(t, x.question, true)
+		if single := slices.Compact(slices.Sorted(slices.Values(lines))); len(lines) < x.least || len(single) != len(lines) {
 			t.Errorf("Prove of %q: %q", x.question, lines)
 		}
 	}

@@ -88,7 +88,8 @@ func (w *writer) root(n []int) string {
 
 func (w *writer) none(n []int) string {
 	c, f := cert.Make(n[1])
-	need(f.Code == api.OK && c.N > 2, api.ErrFalse)
+	need(f.Code == api.OK, api.ErrFalse)
+	// By 2 there is no symbol, and no line either.
 	symbol, _ := residue.Jacobi(n[0], n[1])
 	need(symbol == -1, api.ErrFalse)
 	w.show(c)
